@@ -7,6 +7,7 @@ import (
 
 	"veil/api"
 	"veil/field"
+	"veil/sample"
 )
 
 // callAll: every call of the package at once.
@@ -53,7 +54,7 @@ func TestP101EveryCallEnds(t *testing.T) {
 }
 
 func TestP102Least(t *testing.T) {
-	for _, a := range append(sample(2000), nearP()...) {
+	for _, a := range append(elems(2000), nearP()...) {
 		check(t, a.Least(), whole(a), "%v.Least()", a)
 		check(t, a.One(), big1, "%v.One()", a)
 	}
@@ -72,9 +73,9 @@ func TestP102Int(t *testing.T) {
 }
 
 func TestP103Encode(t *testing.T) {
-	for _, a := range append(sample(500), nearP()...) {
+	for _, a := range append(elems(500), nearP()...) {
 		b := a.Encode()
-		if b != bytesOf(number(a)) {
+		if b != sample.Bytes32(number(a)) {
 			t.Errorf("%v.Encode() = %v", a, b)
 		}
 		if back, e := field.Decode(b); e != api.OK || back != elem(whole(a)) {
@@ -86,7 +87,7 @@ func TestP103Encode(t *testing.T) {
 // decodes: Decode and Reduce of the bytes of one number, both asked for what P103 says.
 func decodes(t *testing.T, n *big.Int) {
 	t.Helper()
-	b := bytesOf(n)
+	b := sample.Bytes32(n)
 	a, e := field.Decode(b)
 	if n.Cmp(p) >= 0 {
 		if e != api.ErrCanon || a != (field.Elem{}) {
@@ -98,12 +99,12 @@ func decodes(t *testing.T, n *big.Int) {
 			t.Errorf("Decode of the bytes of %v: error %d", n, e)
 		}
 	}
-	below := new(big.Int).Mod(n, power2(255))
+	below := new(big.Int).Mod(n, sample.Power2(255))
 	check(t, field.Reduce(b), below, "Reduce of the bytes of %v", n)
 }
 
 func TestP103DecodeReduce(t *testing.T) {
-	for _, middle := range []*big.Int{new(big.Int), p, power2(255), new(big.Int).Add(power2(255), p), power2(256)} {
+	for _, middle := range []*big.Int{new(big.Int), p, sample.Power2(255), new(big.Int).Add(sample.Power2(255), p), sample.Power2(256)} {
 		for off := int64(-40); off <= 40; off++ {
 			n := new(big.Int).Add(middle, big.NewInt(off))
 			if n.Sign() >= 0 && n.BitLen() <= 256 {
@@ -112,22 +113,18 @@ func TestP103DecodeReduce(t *testing.T) {
 		}
 	}
 	for bit := range uint(256) {
-		decodes(t, power2(bit))
-		decodes(t, new(big.Int).Sub(power2(bit+1), big1))
+		decodes(t, sample.Power2(bit))
+		decodes(t, new(big.Int).Sub(sample.Power2(bit+1), big1))
 	}
-	m := maker(3)
+	m := sample.Maker(3)
 	for range 500 {
-		b := m.bytes()
-		n := new(big.Int)
-		for i := len(b) - 1; i >= 0; i-- {
-			n.Lsh(n, 8).Add(n, big.NewInt(int64(b[i])))
-		}
-		decodes(t, n)
+		b := m.Bytes32()
+		decodes(t, sample.Number(b[:]))
 	}
 }
 
 func TestP104Arithmetic(t *testing.T) {
-	list := sample(60)
+	list := elems(60)
 	for _, a := range list {
 		n := number(a)
 		check(t, a.Neg(), new(big.Int).Neg(n), "%v.Neg()", a)
@@ -146,29 +143,29 @@ func TestP104Arithmetic(t *testing.T) {
 		check(t, a.Add(a), new(big.Int).Add(n, n), "%v.Add(itself)", a)
 		check(t, a.Sub(a), new(big.Int), "%v.Sub(itself)", a)
 	}
-	m := maker(4)
+	m := sample.Maker(4)
 	for range 5000 {
-		a := m.any()
+		a := anyElem(&m)
 		check(t, a.Square(), new(big.Int).Mul(number(a), number(a)), "%v.Square()", a)
 	}
 }
 
 func TestP105Power(t *testing.T) {
-	exponents := []*big.Int{new(big.Int), big1, big.NewInt(2), big.NewInt(3), big.NewInt(255), big.NewInt(256), big.NewInt(65537), power2(255), new(big.Int).Sub(p, big1), p, new(big.Int).Sub(power2(256), big1)}
-	m := maker(5)
+	exponents := []*big.Int{new(big.Int), big1, big.NewInt(2), big.NewInt(3), big.NewInt(255), big.NewInt(256), big.NewInt(65537), sample.Power2(255), new(big.Int).Sub(p, big1), p, new(big.Int).Sub(sample.Power2(256), big1)}
+	m := sample.Maker(5)
 	for range 8 {
-		b := m.bytes()
+		b := m.Bytes32()
 		exponents = append(exponents, new(big.Int).SetBytes(b[:]))
 	}
-	for _, a := range sample(5) {
+	for _, a := range elems(5) {
 		for _, e := range exponents {
-			check(t, a.Power(bytesOf(e)), new(big.Int).Exp(number(a), e, p), "%v.Power(%v)", a, e)
+			check(t, a.Power(sample.Bytes32(e)), new(big.Int).Exp(number(a), e, p), "%v.Power(%v)", a, e)
 		}
 	}
 }
 
 func TestP105Invert(t *testing.T) {
-	for _, a := range append(sample(200), nearP()...) {
+	for _, a := range append(elems(200), nearP()...) {
 		want := new(big.Int)
 		if n := number(a); n.Sign() != 0 {
 			want.ModInverse(n, p)
@@ -178,7 +175,7 @@ func TestP105Invert(t *testing.T) {
 }
 
 func TestP106Questions(t *testing.T) {
-	list := append(sample(40), nearP()...)
+	list := append(elems(40), nearP()...)
 	for _, a := range list {
 		n := number(a)
 		if a.IsZero() != (n.Sign() == 0) {
@@ -203,7 +200,7 @@ func TestP106Questions(t *testing.T) {
 
 func TestP107Select(t *testing.T) {
 	picks := map[int]bool{math.MinInt: false, math.MinInt + 1: true, -3: true, -2: false, -1: true, 0: false, 1: true, 2: false, 3: true, 256: false, math.MaxInt - 1: false, math.MaxInt: true}
-	list := sample(10)
+	list := elems(10)
 	for _, a := range list {
 		for _, b := range list {
 			for pick, first := range picks {
@@ -240,7 +237,7 @@ func wantRoot(u, v *big.Int) (*big.Int, bool) {
 }
 
 func TestP108SqrtRatio(t *testing.T) {
-	list := sample(25)
+	list := elems(25)
 	verdicts := map[bool]int{}
 	for _, u := range list {
 		for _, v := range list {
@@ -298,8 +295,8 @@ func TestP109Meanings(t *testing.T) {
 }
 
 func TestP110Laws(t *testing.T) {
-	toP := bytesOf(p)
-	list := sample(4)
+	toP := sample.Bytes32(p)
+	list := elems(4)
 	for _, a := range list {
 		least := a.Least()
 		if a.Add(field.Elem{}) != least || a.Mul(a.One()) != least || a.Sub(a) != (field.Elem{}) || a.Power(toP) != least {

@@ -6,8 +6,8 @@ import (
 	"math/big"
 	"testing"
 
-	"veil/api"
 	"veil/field"
+	"veil/sample"
 )
 
 const (
@@ -18,10 +18,8 @@ const (
 
 var (
 	big1 = big.NewInt(1)
-	p    = new(big.Int).Sub(power2(255), big.NewInt(19))
+	p    = new(big.Int).Sub(sample.Power2(255), big.NewInt(19))
 )
-
-func power2(n uint) *big.Int { return new(big.Int).Lsh(big1, n) }
 
 func decimal(t *testing.T, s string) *big.Int {
 	t.Helper()
@@ -59,15 +57,6 @@ func elem(n *big.Int) field.Elem {
 	return a
 }
 
-// bytesOf: a number below 2^256 as bytes, the lowest first.
-func bytesOf(n *big.Int) api.Bytes32 {
-	var b api.Bytes32
-	for i, c := range n.FillBytes(make([]byte, 32)) {
-		b[31-i] = c
-	}
-	return b
-}
-
 // check: an answer must be the least limbs of a number.
 func check(t *testing.T, got field.Elem, want *big.Int, what string, args ...any) {
 	t.Helper()
@@ -76,33 +65,13 @@ func check(t *testing.T, got field.Elem, want *big.Int, what string, args ...any
 	}
 }
 
-// maker: limbs that look like chance and are the same in every run.
-type maker uint64
-
-func (m *maker) next() uint64 {
-	*m += 0x9e3779b97f4a7c15
-	z := uint64(*m)
-	z = (z ^ z>>30) * 0xbf58476d1ce4e5b9
-	z = (z ^ z>>27) * 0x94d049bb133111eb
-	return z ^ z>>31
-}
-
-// any: an element by any limbs; some of them short, so that all sizes come up.
-func (m *maker) any() field.Elem {
+// anyElem: an element by any limbs; some of them short, so that all sizes come up.
+func anyElem(m *sample.Maker) field.Elem {
 	var a field.Elem
 	for i := range a {
-		a[i] = m.next() >> (m.next() % 4 * 13)
+		a[i] = m.Next() >> (m.Next() % 4 * 13)
 	}
 	return a
-}
-
-// bytes: any 32 bytes.
-func (m *maker) bytes() api.Bytes32 {
-	var b api.Bytes32
-	for i := range b {
-		b[i] = byte(m.next())
-	}
-	return b
 }
 
 // nearP: elements whose numbers lie around multiples of p, as far up as five limbs reach, in two ways of writing each.
@@ -116,7 +85,7 @@ func nearP() []field.Elem {
 				continue
 			}
 			high := new(big.Int).Rsh(n, 204)
-			a := elem(new(big.Int).Mod(n, power2(204)))
+			a := elem(new(big.Int).Mod(n, sample.Power2(204)))
 			a[4] = high.Uint64()
 			list = append(list, a)
 			if a[1] > 0 && a[4] > 0 {
@@ -154,12 +123,12 @@ func edges() []field.Elem {
 	}
 }
 
-// sample: the edges, and others by any limbs.
-func sample(others int) []field.Elem {
+// elems: the edges, and others by any limbs.
+func elems(others int) []field.Elem {
 	list := edges()
-	m := maker(1)
+	m := sample.Maker(1)
 	for range others {
-		list = append(list, m.any())
+		list = append(list, anyElem(&m))
 	}
 	return list
 }

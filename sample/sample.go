@@ -1,0 +1,53 @@
+// Package sample: what the tests of the layers share: inputs that look like chance and are the same in every run, and numbers of math/big, against which answers are held. The program itself does not call it.
+package sample
+
+import (
+	"math/big"
+	"slices"
+
+	"veil/api"
+)
+
+// Maker: makes up inputs; those of one seed are always the same.
+type Maker uint64
+
+// Next: any number.
+func (m *Maker) Next() uint64 {
+	*m += 0x9e3779b97f4a7c15
+	z := uint64(*m)
+	z = (z ^ z>>30) * 0xbf58476d1ce4e5b9
+	z = (z ^ z>>27) * 0x94d049bb133111eb
+	return z ^ z>>31
+}
+
+// Bytes: n bytes, any of them.
+func (m *Maker) Bytes(n int) []byte {
+	b := make([]byte, n)
+	for i := range b {
+		b[i] = byte(m.Next())
+	}
+	return b
+}
+
+// Bytes32: 32 bytes, any of them.
+func (m *Maker) Bytes32() api.Bytes32 { return api.Bytes32(m.Bytes(32)) }
+
+// Power2: 2^n.
+func Power2(n uint) *big.Int { return new(big.Int).Lsh(big.NewInt(1), n) }
+
+// Number: of bytes, the lowest first.
+func Number(b []byte) *big.Int {
+	back := slices.Clone(b)
+	slices.Reverse(back)
+	return new(big.Int).SetBytes(back)
+}
+
+// Bytes: a number below 2^(8 size) as so many bytes, the lowest first.
+func Bytes(n *big.Int, size int) []byte {
+	b := n.FillBytes(make([]byte, size))
+	slices.Reverse(b)
+	return b
+}
+
+// Bytes32: a number below 2^256 as bytes, the lowest first.
+func Bytes32(n *big.Int) api.Bytes32 { return api.Bytes32(Bytes(n, 32)) }
