@@ -8,6 +8,7 @@ import (
 
 	"veil/api"
 	"veil/field"
+	"veil/sample"
 )
 
 // ends: 32 bytes: first, then 30 times middle, then last.
@@ -52,7 +53,7 @@ func TestExample3Bytes(t *testing.T) {
 func TestExample4Sums(t *testing.T) {
 	check(t, field.Int(5).Sub(field.Int(7)), big.NewInt(-2), "5 - 7")
 	check(t, field.Elem{}.Neg(), new(big.Int), "-0")
-	half := decimal(t, "28948022309329048855892746252171976963317496166410141009864396001978282409975")
+	half := sample.Decimal("28948022309329048855892746252171976963317496166410141009864396001978282409975")
 	check(t, field.Int(2).Invert(), half, "1 / 2")
 	check(t, field.Elem{}.Power(api.Bytes32{}), big1, "0^0")
 	check(t, field.Elem{}.Power(ends(0, 0, 128)), new(big.Int), "0^(2^255)")

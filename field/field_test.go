@@ -266,9 +266,9 @@ func TestP109Const(t *testing.T) {
 	}
 	for which, s := range digits {
 		a := field.Const(which)
-		check(t, a, decimal(t, s), "Const(%d)", which)
+		check(t, a, sample.Decimal(s), "Const(%d)", which)
 		a[0]++
-		check(t, field.Const(which), decimal(t, s), "Const(%d), its last answer written into,", which)
+		check(t, field.Const(which), sample.Decimal(s), "Const(%d), its last answer written into,", which)
 	}
 	for _, which := range []int{math.MinInt, -6, -1, 0, 7, 8, 1 << 32, 1<<32 + 1, math.MaxInt} {
 		check(t, field.Const(which), new(big.Int), "Const(%d)", which)

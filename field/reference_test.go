@@ -18,17 +18,8 @@ const (
 
 var (
 	big1 = big.NewInt(1)
-	p    = new(big.Int).Sub(sample.Power2(255), big.NewInt(19))
+	p    = sample.P()
 )
-
-func decimal(t *testing.T, s string) *big.Int {
-	t.Helper()
-	n, ok := new(big.Int).SetString(s, 10)
-	if !ok {
-		t.Fatalf("no decimal number: %s", s)
-	}
-	return n
-}
 
 // whole: the number of an element, not modulo p.
 func whole(a field.Elem) *big.Int {

@@ -35,6 +35,20 @@ func (m *Maker) Bytes32() api.Bytes32 { return api.Bytes32(m.Bytes(32)) }
 // Power2: 2^n.
 func Power2(n uint) *big.Int { return new(big.Int).Lsh(big.NewInt(1), n) }
 
+// Decimal: the number of a decimal text; nil, if it is none.
+func Decimal(s string) *big.Int {
+	n, _ := new(big.Int).SetString(s, 10)
+	return n
+}
+
+// P: 2^255 - 19.
+func P() *big.Int { return new(big.Int).Sub(Power2(255), big.NewInt(19)) }
+
+// L: the order of the group.
+func L() *big.Int {
+	return new(big.Int).Add(Power2(252), Decimal("27742317777372353535851937790883648493"))
+}
+
 // Number: of bytes, the lowest first.
 func Number(b []byte) *big.Int {
 	back := slices.Clone(b)

@@ -14,16 +14,11 @@ const maxLimb = 1<<64 - 1
 
 var (
 	big1    = big.NewInt(1)
-	beyond  = decimal("27742317777372353535851937790883648493") // what l has beyond 2^252
-	l       = new(big.Int).Add(sample.Power2(252), beyond)
+	l       = sample.L()
+	beyond  = new(big.Int).Sub(l, sample.Power2(252)) // what l has beyond 2^252
 	full    = scalar.Scalar{maxLimb, maxLimb, maxLimb, maxLimb}
 	primeOf = scalar.Scalar{0x5812631a5cf5d3ed, 0x14def9dea2f79cd6, 0, 0x1000000000000000}
 )
-
-func decimal(s string) *big.Int {
-	n, _ := new(big.Int).SetString(s, 10)
-	return n
-}
 
 // whole: the number of a scalar, not modulo l.
 func whole(a scalar.Scalar) *big.Int {
