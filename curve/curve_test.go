@@ -99,25 +99,10 @@ func TestP402FromAffine(t *testing.T) {
 	}
 }
 
-// moreLimbs: a number by its least limbs, and by others.
-func moreLimbs(n *big.Int) [4]field.Elem {
-	ofP := field.Elem{1<<51 - 19, 1<<51 - 1, 1<<51 - 1, 1<<51 - 1, 1<<51 - 1}
-	least := elem(n)
-	once, often := least, least
-	for i := range least {
-		once[i] += ofP[i]
-		often[i] += 1000 * ofP[i]
-	}
-	moved := once
-	moved[0] += 5 << 51
-	moved[1] -= 5
-	return [4]field.Elem{least, once, often, moved}
-}
-
 func TestP402AnyLimbs(t *testing.T) {
 	for i, a := range points(t, 5) {
-		for j, x := range moreLimbs(a.pair.X) {
-			for k, y := range moreLimbs(a.pair.Y) {
+		for j, x := range sample.Elems(a.pair.X) {
+			for k, y := range sample.Elems(a.pair.Y) {
 				got, e := curve.FromAffine(x, y)
 				if e != api.OK {
 					t.Errorf("FromAffine of point %d by limbs %d, %d: error %d", i, j, k, e)

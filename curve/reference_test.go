@@ -26,10 +26,7 @@ type known struct {
 }
 
 // elem: the field element of a number, by its least limbs.
-func elem(n *big.Int) field.Elem {
-	a, _ := field.Decode(sample.Bytes32(new(big.Int).Mod(n, p)))
-	return a
-}
+func elem(n *big.Int) field.Elem { return sample.Elem(n) }
 
 // knows: the Point of a pair, by FromAffine.
 func knows(t *testing.T, pair sample.Pair) known {

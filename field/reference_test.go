@@ -37,16 +37,7 @@ func number(a field.Elem) *big.Int {
 }
 
 // elem: the element of a number by its least limbs.
-func elem(n *big.Int) field.Elem {
-	rest := new(big.Int).Mod(n, p)
-	mask := big.NewInt(topLimb)
-	var a field.Elem
-	for i := range a {
-		a[i] = new(big.Int).And(rest, mask).Uint64()
-		rest.Rsh(rest, 51)
-	}
-	return a
-}
+func elem(n *big.Int) field.Elem { return sample.Elem(n) }
 
 // check: an answer must be the least limbs of a number.
 func check(t *testing.T, got field.Elem, want *big.Int, what string, args ...any) {

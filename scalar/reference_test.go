@@ -36,19 +36,10 @@ func number(a scalar.Scalar) *big.Int {
 }
 
 // limbs: of a number below 2^256, as it is.
-func limbs(n *big.Int) scalar.Scalar {
-	rest := new(big.Int).Set(n)
-	mask := new(big.Int).SetUint64(maxLimb)
-	var a scalar.Scalar
-	for i := range a {
-		a[i] = new(big.Int).And(rest, mask).Uint64()
-		rest.Rsh(rest, 64)
-	}
-	return a
-}
+func limbs(n *big.Int) scalar.Scalar { return sample.Words(n) }
 
 // least: the least limbs of any number.
-func least(n *big.Int) scalar.Scalar { return limbs(new(big.Int).Mod(n, l)) }
+func least(n *big.Int) scalar.Scalar { return sample.Scalar(n) }
 
 // check: an answer must be the least limbs of a number.
 func check(t *testing.T, got scalar.Scalar, want *big.Int, what string, args ...any) {
