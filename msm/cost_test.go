@@ -59,10 +59,12 @@ func (a counted) Decode(b api.Bytes32) (counted, api.Errno) {
 }
 
 func counters() kind[counted] {
-	return kind[counted]{"a group that counts", 1,
-		func(m *sample.Maker, ns numbers) counted { return counted{lines().of(m, ns)} },
-		func(a counted) numbers { return lines().to(a.line) },
-	}
+	return kind[counted]{sample.Kind[counted]{
+		Name:  "a group that counts",
+		Width: 1,
+		Of:    func(m *sample.Maker, ns numbers) counted { return counted{lines().Of(m, ns)} },
+		To:    func(a counted) numbers { return lines().To(a.line) },
+	}}
 }
 
 // trueCost: the cost of a call must be what was counted, within what is allowed, and without Times.
@@ -119,7 +121,7 @@ func TestP711CostIsTrue(t *testing.T) {
 func TestP705P706P707CostAtMost(t *testing.T) {
 	m := sample.Maker(722)
 	k := counters()
-	costly := append(widest(), bigs(-1, -2)...)
+	costly := append(widest(), sample.Small(-1, -2)...)
 	for _, count := range []int{1, 2, 3, 30, 300} {
 		for i := range costly {
 			if count > 3 && i%6 != 0 {
@@ -127,7 +129,7 @@ func TestP705P706P707CostAtMost(t *testing.T) {
 			}
 			c := sums[counted]{}
 			for j := range count {
-				c = k.more(&m, c, costly[(i+j/3)%len(costly)], bigs(int64(j)+1))
+				c = k.more(&m, c, costly[(i+j/3)%len(costly)], sample.Small(int64(j)+1))
 			}
 			trueCosts(t, c)
 		}
@@ -183,7 +185,7 @@ func TestP701CostOfOtherLooks(t *testing.T) {
 			other := sample.Maker(look)
 			c := sums[msm.Free]{}
 			for range count {
-				c = frees().more(&other, c, anyNumber(&m), frees().any(&m))
+				c = frees().more(&other, c, m.Number(), frees().Any(&m))
 			}
 			costs := make([]msm.Cost, 3)
 			_, costs[0] = msm.Sum(c.terms...)
@@ -253,7 +255,7 @@ func TestP709HighestPlace(t *testing.T) {
 	m := sample.Maker(728)
 	k := counters()
 	for bit := uint(240); bit <= 252; bit++ {
-		trueCosts(t, k.more(&m, sums[counted]{}, mod(sample.Power2(bit)), bigs(1)))
-		trueCosts(t, k.more(&m, sums[counted]{}, mod(new(big.Int).Sub(sample.Power2(bit), big.NewInt(1))), bigs(1)))
+		trueCosts(t, k.more(&m, sums[counted]{}, sample.Mod(sample.Power2(bit)), sample.Small(1)))
+		trueCosts(t, k.more(&m, sums[counted]{}, sample.Mod(new(big.Int).Sub(sample.Power2(bit), big.NewInt(1))), sample.Small(1)))
 	}
 }

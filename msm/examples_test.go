@@ -19,7 +19,7 @@ func term(k, n uint64) msm.Term[msm.Line] { return msm.Term[msm.Line]{K: scalar.
 
 func small(ns ...int64) msm.Free {
 	a := msm.Free{}
-	for _, n := range bigs(ns...) {
+	for _, n := range sample.Small(ns...) {
 		a.K = append(a.K, sample.Scalar(n))
 	}
 	return a
@@ -54,8 +54,8 @@ func TestExample3Free(t *testing.T) {
 	if !small(1, 2, 0).Same(small(1, 2)) {
 		t.Errorf("a zero at the end makes another element")
 	}
-	leastList(t, "1, 2, 0 plus 1, 2", small(1, 2, 0).Add(small(1, 2)), bigs(2, 4))
-	leastList(t, "1, 2 plus -1, 5", small(1, 2).Add(small(-1, 5)), bigs(0, 7))
+	leastList(t, "1, 2, 0 plus 1, 2", small(1, 2, 0).Add(small(1, 2)), sample.Small(2, 4))
+	leastList(t, "1, 2 plus -1, 5", small(1, 2).Add(small(-1, 5)), sample.Small(0, 7))
 	none := small(1).Add(small(1).Neg())
 	leastList(t, "1 minus itself", none, nil)
 	if !none.Same(msm.Free{}) {

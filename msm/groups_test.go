@@ -17,9 +17,9 @@ import (
 // edges: numbers from 0 to l - 1.
 func edges(m *sample.Maker) numbers {
 	l := sample.L()
-	list := append(bigs(0, 1, 2, 3, -1, -2, -3), mod(sample.Power2(252)), mod(sample.Power2(64)), mod(new(big.Int).Rsh(l, 1)))
+	list := append(sample.Small(0, 1, 2, 3, -1, -2, -3), sample.Mod(sample.Power2(252)), sample.Mod(sample.Power2(64)), sample.Mod(new(big.Int).Rsh(l, 1)))
 	for range 5 {
-		list = append(list, anyNumber(m))
+		list = append(list, m.Number())
 	}
 	return list
 }
@@ -43,7 +43,7 @@ func TestP702LineOperations(t *testing.T) {
 				t.Errorf("Encode of %v: %x", a, line.Encode())
 			}
 			for _, b := range edges(&m) {
-				y := limbs(&m, b)
+				y := m.Limbs(b)
 				other := msm.Line{K: y}
 				least(t, "Add", line.Add(other).K, new(big.Int).Add(a, b))
 				least(t, "Times", line.Times(y).K, new(big.Int).Mul(a, b))
@@ -68,7 +68,7 @@ func TestP702LineDecode(t *testing.T) {
 		list = append(list, sample.Number(m.Bytes(32)))
 	}
 	for _, n := range list {
-		for _, receiver := range []msm.Line{{}, {K: scalar.Int(5)}, {K: limbs(&m, anyNumber(&m))}} {
+		for _, receiver := range []msm.Line{{}, {K: scalar.Int(5)}, {K: m.Limbs(m.Number())}} {
 			got, e := receiver.Decode(sample.Bytes32(n))
 			if n.Cmp(l) >= 0 {
 				if e != api.ErrCanon || got != (msm.Line{}) {
@@ -101,9 +101,9 @@ func leastList(t *testing.T, what string, got msm.Free, want numbers) {
 
 // lists: that end with zeros, are all zeros, have none; of unlike lengths.
 func lists(m *sample.Maker) []numbers {
-	list := []numbers{nil, bigs(0), bigs(0, 0, 0), bigs(1), bigs(1, 0), bigs(-1), bigs(0, 5), bigs(1, 2, 3, 0, 0), bigs(-1, -2, -3), bigs(-1, 2, -3), bigs(7, 0, 0, 0, 0, 0, 0, 1)}
+	list := []numbers{nil, sample.Small(0), sample.Small(0, 0, 0), sample.Small(1), sample.Small(1, 0), sample.Small(-1), sample.Small(0, 5), sample.Small(1, 2, 3, 0, 0), sample.Small(-1, -2, -3), sample.Small(-1, 2, -3), sample.Small(7, 0, 0, 0, 0, 0, 0, 1)}
 	for range 12 {
-		list = append(list, frees().any(m))
+		list = append(list, frees().Any(m))
 	}
 	return list
 }
@@ -115,7 +115,7 @@ func looks(m *sample.Maker, ns numbers) []msm.Free {
 		list[0].K = append(list[0].K, sample.Scalar(n))
 	}
 	for range 5 {
-		list = append(list, frees().of(m, ns))
+		list = append(list, frees().Of(m, ns))
 	}
 	return list
 }
@@ -124,15 +124,15 @@ func TestP703FreeOperations(t *testing.T) {
 	m := sample.Maker(703)
 	for _, ns := range lists(&m) {
 		for _, a := range looks(&m, ns) {
-			leastList(t, "Neg", a.Neg(), ns.times(big.NewInt(-1)))
-			leastList(t, "Double", a.Double(), ns.times(big.NewInt(2)))
+			leastList(t, "Neg", a.Neg(), ns.Times(big.NewInt(-1)))
+			leastList(t, "Double", a.Double(), ns.Times(big.NewInt(2)))
 			for _, k := range edges(&m) {
-				leastList(t, "Times", a.Times(limbs(&m, k)), ns.times(k))
+				leastList(t, "Times", a.Times(m.Limbs(k)), ns.Times(k))
 			}
 			for _, others := range lists(&m) {
-				b := frees().of(&m, others)
-				leastList(t, "Add", a.Add(b), ns.plus(others))
-				leastList(t, "Add", b.Add(a), ns.plus(others))
+				b := frees().Of(&m, others)
+				leastList(t, "Add", a.Add(b), ns.Plus(others))
+				leastList(t, "Add", b.Add(a), ns.Plus(others))
 			}
 		}
 	}
@@ -148,7 +148,7 @@ func TestP703FreeSame(t *testing.T) {
 				}
 			}
 			for _, others := range lists(&m) {
-				if b := frees().of(&m, others); a.Same(b) != ns.same(others) {
+				if b := frees().Of(&m, others); a.Same(b) != ns.Same(others) {
 					t.Errorf("Same of %v and %v: %v", ns, others, a.Same(b))
 				}
 			}
@@ -178,7 +178,7 @@ func TestP703FreeEncode(t *testing.T) {
 func TestP703FreeDecode(t *testing.T) {
 	m := sample.Maker(706)
 	for _, ns := range lists(&m) {
-		a := frees().of(&m, ns)
+		a := frees().Of(&m, ns)
 		for _, b := range []api.Bytes32{{}, a.Encode(), msm.Free{}.Encode(), m.Bytes32()} {
 			if got, e := a.Decode(b); e != api.ErrPoint || len(got.K) != 0 {
 				t.Errorf("Decode: %x, error %d, want ErrPoint alone", got.K, e)

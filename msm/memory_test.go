@@ -25,10 +25,10 @@ func hand(m *sample.Maker, count int) handed {
 	for range count {
 		room := make([]scalar.Scalar, 6)
 		for i := range room {
-			room[i] = limbs(m, anyNumber(m))
+			room[i] = m.Limbs(m.Number())
 		}
 		h.rooms = append(h.rooms, room)
-		h.room = append(h.room, freeTerm{K: limbs(m, anyNumber(m)), P: msm.Free{K: room[:m.Next()%5]}})
+		h.room = append(h.room, freeTerm{K: m.Limbs(m.Number()), P: msm.Free{K: room[:m.Next()%5]}})
 	}
 	return h
 }
@@ -122,8 +122,8 @@ func TestP701Memory(t *testing.T) {
 // Zip's list is new; the elements in it are those that were handed in.
 func TestP701P708ZipMemory(t *testing.T) {
 	m := sample.Maker(732)
-	ks := []scalar.Scalar{limbs(&m, anyNumber(&m)), scalar.Int(2), scalar.Int(3), scalar.Int(4)}
-	ps := []msm.Line{lines().of(&m, bigs(5)), {K: scalar.Int(6)}, {K: scalar.Int(7)}, {K: scalar.Int(8)}}
+	ks := []scalar.Scalar{m.Limbs(m.Number()), scalar.Int(2), scalar.Int(3), scalar.Int(4)}
+	ps := []msm.Line{lines().Of(&m, sample.Small(5)), {K: scalar.Int(6)}, {K: scalar.Int(7)}, {K: scalar.Int(8)}}
 	wasKs, wasPs := slices.Clone(ks), slices.Clone(ps)
 	first, _ := msm.Zip(ks[:3], ps[:3])
 	second, _ := msm.Zip(ks[:3], ps[:3])
@@ -149,7 +149,7 @@ func TestP701AnswersOfOtherLooks(t *testing.T) {
 			other := sample.Maker(look)
 			c := sums[msm.Free]{}
 			for range count + 2 {
-				c = frees().more(&other, c, anyNumber(&m), frees().any(&m))
+				c = frees().more(&other, c, m.Number(), frees().Any(&m))
 			}
 			got := everyElement(c.terms)
 			if first == nil {
@@ -174,24 +174,13 @@ func TestP701NilAndEmpty(t *testing.T) {
 	}
 }
 
-// wild: no group at all: nothing that its methods answer fits together.
-type wild uint8
-
-func (a wild) Add(b wild) wild                        { return a ^ b*3 + 1 }
-func (a wild) Neg() wild                              { return a + 5 }
-func (a wild) Double() wild                           { return a*7 + 3 }
-func (a wild) Times(k scalar.Scalar) wild             { return a ^ wild(k[0]) }
-func (a wild) Same(b wild) bool                       { return (a+b)%3 == 0 }
-func (a wild) Encode() api.Bytes32                    { return api.Bytes32{byte(a)} }
-func (a wild) Decode(b api.Bytes32) (wild, api.Errno) { return a + wild(b[0]), api.ErrShort }
-
 // A panic in any call fails the test.
 func TestP701EveryCallEndsOverAnyType(t *testing.T) {
 	m := sample.Maker(734)
 	for count := range 40 {
-		terms := make([]msm.Term[wild], count)
+		terms := make([]msm.Term[sample.Wild], count)
 		for i := range terms {
-			terms[i] = msm.Term[wild]{K: limbs(&m, anyNumber(&m)), P: wild(m.Next())}
+			terms[i] = msm.Term[sample.Wild]{K: m.Limbs(m.Number()), P: sample.Wild(m.Next())}
 		}
 		msm.Plain(terms...)
 		msm.Sum(terms...)

@@ -25,7 +25,7 @@ func (k kind[P]) allWays(t *testing.T, c sums[P]) {
 		got, _, e := msm.Pippenger(w, c.terms...)
 		k.one(t, "Pippenger", got, c.want)
 		if e != api.OK {
-			t.Errorf("Pippenger(%d), over %s: error %d", w, k.name, e)
+			t.Errorf("Pippenger(%d), over %s: error %d", w, k.Name, e)
 		}
 		if w > 8 {
 			continue
@@ -33,7 +33,7 @@ func (k kind[P]) allWays(t *testing.T, c sums[P]) {
 		got, _, e = msm.Straus(w, c.terms...)
 		k.one(t, "Straus", got, c.want)
 		if e != api.OK {
-			t.Errorf("Straus(%d), over %s: error %d", w, k.name, e)
+			t.Errorf("Straus(%d), over %s: error %d", w, k.Name, e)
 		}
 	}
 }
@@ -47,7 +47,7 @@ func widest() []*big.Int {
 			for place := uint(0); place+w < 252; place += w {
 				n.Add(n, new(big.Int).Mul(big.NewInt(digit), sample.Power2(place)))
 			}
-			list = append(list, mod(n))
+			list = append(list, sample.Mod(n))
 		}
 	}
 	return list
@@ -70,15 +70,15 @@ func TestP709AllWays(t *testing.T) {
 func everyEdge[P msm.Group[P]](t *testing.T, k kind[P], scalars []*big.Int) {
 	m := sample.Maker(712)
 	for _, times := range scalars {
-		alone := k.more(&m, sums[P]{}, times, bigs(3))
+		alone := k.more(&m, sums[P]{}, times, sample.Small(3))
 		k.allWays(t, alone)
-		k.allWays(t, k.more(&m, alone, anyNumber(&m), bigs(-2)))
+		k.allWays(t, k.more(&m, alone, m.Number(), sample.Small(-2)))
 	}
-	for _, ns := range []numbers{nil, bigs(0), bigs(1), bigs(-1)} {
+	for _, ns := range []numbers{nil, sample.Small(0), sample.Small(1), sample.Small(-1)} {
 		c := k.more(&m, sums[P]{}, big.NewInt(0), ns)
 		k.allWays(t, c)
 		k.allWays(t, k.more(&m, c, big.NewInt(0), ns))
-		c = k.more(&m, c, mod(big.NewInt(-1)), ns)
+		c = k.more(&m, c, sample.Mod(big.NewInt(-1)), ns)
 		k.allWays(t, k.more(&m, c, big.NewInt(1), ns)) // which comes to nothing
 	}
 }
@@ -94,13 +94,13 @@ func TestP709EdgesOfScalars(t *testing.T) {
 // The same element many times over, and beside its negative: buckets and multiples meet themselves.
 func TestP709ElementsThatAreTheSame(t *testing.T) {
 	m := sample.Maker(714)
-	for _, times := range append(bigs(1, 2, 3, -1), anyNumber(&m)) {
+	for _, times := range append(sample.Small(1, 2, 3, -1), m.Number()) {
 		c, d := sums[msm.Line]{}, sums[group.Point]{}
 		k, p := lines(), points()
 		for i := range 9 {
-			ns := bigs(5)
+			ns := sample.Small(5)
 			if i%4 == 3 {
-				ns = bigs(-5)
+				ns = sample.Small(-5)
 			}
 			c, d = k.more(&m, c, times, ns), p.more(&m, d, times, ns)
 		}
@@ -161,24 +161,24 @@ func manyTerms[P msm.Group[P]](t *testing.T, k kind[P], c sums[P], widths ...int
 		got, cost, e := msm.Straus(min(w, 8), c.terms...)
 		k.one(t, "Straus", got, c.want)
 		if most := strausMost(len(c.terms), min(w, 8)); e != api.OK || cost.Adds+cost.Doubles > most {
-			t.Errorf("Straus(%d) of %d terms, over %s: cost %v, error %d, allowed %d", min(w, 8), len(c.terms), k.name, cost, e, most)
+			t.Errorf("Straus(%d) of %d terms, over %s: cost %v, error %d, allowed %d", min(w, 8), len(c.terms), k.Name, cost, e, most)
 		}
 		got, cost, e = msm.Pippenger(w, c.terms...)
 		k.one(t, "Pippenger", got, c.want)
 		if most := pippengerMost(len(c.terms), w); e != api.OK || cost.Adds+cost.Doubles > most {
-			t.Errorf("Pippenger(%d) of %d terms, over %s: cost %v, error %d, allowed %d", w, len(c.terms), k.name, cost, e, most)
+			t.Errorf("Pippenger(%d) of %d terms, over %s: cost %v, error %d, allowed %d", w, len(c.terms), k.Name, cost, e, most)
 		}
 	}
 	got, cost := msm.Sum(c.terms...)
 	k.one(t, "Sum", got, c.want)
 	if cost.Adds+cost.Doubles > msm.Bound(len(c.terms)) {
-		t.Errorf("Sum of %d terms, over %s: cost %v, Bound %d", len(c.terms), k.name, cost, msm.Bound(len(c.terms)))
+		t.Errorf("Sum of %d terms, over %s: cost %v, Bound %d", len(c.terms), k.Name, cost, msm.Bound(len(c.terms)))
 	}
 }
 
 // often: the terms so many times over.
 func (k kind[P]) often(c sums[P], times int) sums[P] {
-	return sums[P]{slices.Repeat(c.terms, times), c.want.times(big.NewInt(int64(times)))}
+	return sums[P]{slices.Repeat(c.terms, times), c.want.Times(big.NewInt(int64(times)))}
 }
 
 func TestP705P706P707MaxTerms(t *testing.T) {
@@ -230,21 +230,21 @@ func everyZip[P msm.Group[P]](t *testing.T, k kind[P]) {
 		}
 		got, e := msm.Zip(ks, ps)
 		if e != api.OK || len(got) != n {
-			t.Fatalf("Zip of %d, over %s: %d terms, error %d", n, k.name, len(got), e)
+			t.Fatalf("Zip of %d, over %s: %d terms, error %d", n, k.Name, len(got), e)
 		}
 		for i, term := range got {
 			if !term.K.Same(ks[i]) || !term.P.Same(ps[i]) {
-				t.Errorf("Zip, over %s: term %d is another", k.name, i)
+				t.Errorf("Zip, over %s: term %d is another", k.Name, i)
 			}
 		}
 		for _, more := range []int{1, 2, 7} {
 			longer, e := msm.Zip(append(ks, make([]scalar.Scalar, more)...), ps)
 			if e != api.ErrLength || len(longer) != 0 {
-				t.Errorf("Zip of %d scalars and %d elements, over %s: error %d", n+more, n, k.name, e)
+				t.Errorf("Zip of %d scalars and %d elements, over %s: error %d", n+more, n, k.Name, e)
 			}
 			longer, e = msm.Zip(ks, append(ps, make([]P, more)...))
 			if e != api.ErrLength || len(longer) != 0 {
-				t.Errorf("Zip of %d scalars and %d elements, over %s: error %d", n, n+more, k.name, e)
+				t.Errorf("Zip of %d scalars and %d elements, over %s: error %d", n, n+more, k.Name, e)
 			}
 		}
 	}
@@ -275,22 +275,22 @@ func linear[P msm.Group[P]](t *testing.T, k kind[P], way func(terms ...msm.Term[
 		a, b := k.terms(&m, count).terms, k.terms(&m, count+1).terms
 		whole := way(append(slices.Clone(a), b...)...)
 		if !whole.Same(way(a...).Add(way(b...))) {
-			t.Errorf("over %s: the sum of two lists is not the sum of their sums", k.name)
+			t.Errorf("over %s: the sum of two lists is not the sum of their sums", k.Name)
 		}
 		if !way(shuffled(&m, append(slices.Clone(a), b...))...).Same(whole) {
-			t.Errorf("over %s: the sum in another order is another", k.name)
+			t.Errorf("over %s: the sum in another order is another", k.Name)
 		}
-		times := limbs(&m, anyNumber(&m))
+		times := m.Limbs(m.Number())
 		multiplied := slices.Clone(b)
 		for i := range multiplied {
 			multiplied[i].K = multiplied[i].K.Mul(times)
 		}
 		if !way(multiplied...).Same(way(b...).Times(times)) {
-			t.Errorf("over %s: the sum of multiples is not the multiple of the sum", k.name)
+			t.Errorf("over %s: the sum of multiples is not the multiple of the sum", k.Name)
 		}
-		idle := []msm.Term[P]{{P: k.of(&m, bigs(7))}, {K: sample.Words(sample.L()), P: k.of(&m, bigs(8))}, {K: limbs(&m, anyNumber(&m)), P: neutral}, {K: limbs(&m, big.NewInt(9)), P: k.of(&m, bigs(0))}}
+		idle := []msm.Term[P]{{P: k.Of(&m, sample.Small(7))}, {K: sample.Words(sample.L()), P: k.Of(&m, sample.Small(8))}, {K: m.Limbs(m.Number()), P: neutral}, {K: m.Limbs(big.NewInt(9)), P: k.Of(&m, sample.Small(0))}}
 		if !way(shuffled(&m, append(idle, b...))...).Same(way(b...)) {
-			t.Errorf("over %s: terms that are nothing change the sum", k.name)
+			t.Errorf("over %s: terms that are nothing change the sum", k.Name)
 		}
 	}
 }
