@@ -44,9 +44,12 @@ func Decimal(s string) *big.Int {
 // P: 2^255 - 19.
 func P() *big.Int { return new(big.Int).Sub(Power2(255), big.NewInt(19)) }
 
-// L: the order of the group.
+// L: the order of the group: 2^252 + 27742317777372353535851937790883648493. By its bytes, for it is asked for very often, and a decimal text is slow to read.
 func L() *big.Int {
-	return new(big.Int).Add(Power2(252), Decimal("27742317777372353535851937790883648493"))
+	return new(big.Int).SetBytes([]byte{
+		0x10, 0, 0, 0, 0, 0, 0, 0, 0, 0, 0, 0, 0, 0, 0, 0,
+		0x14, 0xde, 0xf9, 0xde, 0xa2, 0xf7, 0x9c, 0xd6, 0x58, 0x12, 0x63, 0x1a, 0x5c, 0xf5, 0xd3, 0xed,
+	})
 }
 
 // Number: of bytes, the lowest first.
