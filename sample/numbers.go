@@ -18,10 +18,13 @@ func NumberOf(k scalar.Scalar) *big.Int {
 	return Number(b[:])
 }
 
-// Limbs: a scalar by any of its limbs.
+// Limbs: a scalar by any of its limbs: one of those that Scalars lists, without making the others.
 func (m *Maker) Limbs(n *big.Int) scalar.Scalar {
-	looks := Scalars(n)
-	return looks[m.Next()%uint64(len(looks))]
+	n = Mod(n)
+	most := new(big.Int).Sub(Power2(256), big.NewInt(1))
+	looks := most.Sub(most, n).Div(most, L()).Uint64() + 1
+	far := new(big.Int).SetUint64(m.Next() % looks)
+	return Words(far.Mul(far, L()).Add(far, n))
 }
 
 // Number: from 0 to l - 1; 0, 1 and -1 come up often.
